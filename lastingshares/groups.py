@@ -26,9 +26,18 @@ WRONG_LINE = -100
 LASTS = 1
 SPREAD = 2
 HALF = 4
+GAP = 5
+SWAY = 6
+PAIRS = 7
+RARE = 8
 
-# By each call's number, how many numbers stand behind it: lasts, spread, come, half.
-SIZES = {1: 3, 2: 3, 3: 3, 4: 1}
+# By each call's number, how many numbers stand behind it: lasts, spread, come, half, gap, sway, pairs, rare.
+SIZES = {1: 3, 2: 3, 3: 3, 4: 1, 5: 1, 6: 1, 7: 0, 8: 2}
+
+# The measures of rare.
+TIMES_TOGETHER = 0
+PAIRS_TOGETHER = 1
+LAST_MEASURE = 2
 
 
 def within(number, greatest):
@@ -119,13 +128,17 @@ def members(people, group):
     return [person for person in people if group == ALL or person[0] == group]
 
 
+def there_at(people, time):
+    return len([person for person in people if person[1] >= time])
+
+
+def ended_at(people, time):
+    return len([person for person in people if person[1] == time and person[2] == 1])
+
+
 def steps_of(people):
-    steps = []
-    for end in sorted(set([person[1] for person in people if person[2] == 1])):
-        there = [person for person in people if person[1] >= end]
-        ended = [person for person in there if person[1] == end and person[2] == 1]
-        steps.append((end, len(there), len(ended)))
-    return steps
+    ends = sorted(set([person[1] for person in people if person[2] == 1]))
+    return [(end, there_at(people, end), ended_at(people, end)) for end in ends]
 
 
 def share_beyond(share, step):
@@ -164,6 +177,115 @@ def half_of(steps):
         if 2 * share[0] <= share[1]:
             return step[0]
     return NO_HALF
+
+
+# The two groups against each other
+
+
+def gap_of(people):
+    ones = members(people, 1)
+    total = (0, 1)
+    for end, there, ended in steps_of(people):
+        above = ended_at(ones, end) * there - there_at(ones, end) * ended
+        total = plus(total, lowest(above, there))
+    return total
+
+
+def sway_of(people):
+    ones = members(people, 1)
+    total = (0, 1)
+    for end, there, ended in steps_of(people):
+        # With just one there, the part below would be 0.
+        if there > 1:
+            there_of_ones = there_at(ones, end)
+            above = there_of_ones * (there - there_of_ones) * ended * (there - ended)
+            total = plus(total, lowest(above, there * there * (there - 1)))
+    return total
+
+
+def pair_worth(person, other):
+    if person[1] > other[1]:
+        return 2
+    return 1 if person[1] == other[1] else 0
+
+
+def worth_against(person, others):
+    return sum([pair_worth(person, other) for other in others])
+
+
+def pairs_of(people):
+    zeros = members(people, 0)
+    return sum([worth_against(person, zeros) for person in members(people, 1)])
+
+
+# How rare a measure is
+#
+# Each measure is a sum of scores, one for each of group 1, that don't hang on who else is chosen, but for
+# what is the same for all choices. So the choices of one half of the people are held against those of the
+# other half, and never gone through one by one: of 20 people there are up to 184756.
+
+
+# In parts of the whole, so that the score is a whole number.
+def gap_score(person, steps, whole):
+    return person[2] * whole - sum([ended * (whole // there) for end, there, ended in steps if end <= person[1]])
+
+
+def gap_scores(people):
+    steps = steps_of(people)
+    whole = 1
+    for end, there, ended in steps:
+        whole = whole * there
+    return [gap_score(person, steps, whole) for person in people]
+
+
+# The third is the gap: no other measure is handed on to here.
+def scores_of(people, measure):
+    if measure == TIMES_TOGETHER:
+        return [person[1] for person in people]
+    if measure == PAIRS_TOGETHER:
+        # Against all, not group 0 alone: what the chosen are worth against each other is the same for all choices.
+        return [worth_against(person, people) for person in people]
+    return gap_scores(people)
+
+
+def raised(sums, score):
+    return [total + score for total in sums]
+
+
+# By how many are chosen, the sorted sums of all such choices; equal sums stay, since each choice counts by itself.
+def sums_by_size(scores):
+    rows = [[0]]
+    for score in scores:
+        with_score = [[]] + [raised(sums, score) for sums in rows]
+        rows = [without + taken for without, taken in zip(rows + [[]], with_score)]
+    return [sorted(sums) for sums in rows]
+
+
+# Both are sorted: the greater the one, the less the other needs, so the others are walked down just once.
+def reaching(ones, others, least):
+    found = 0
+    short = len(others)
+    for one in ones:
+        while short > 0 and one + others[short - 1] >= least:
+            short -= 1
+        found += len(others) - short
+    return found
+
+
+def rare_of(people, measure):
+    scores = scores_of(people, measure)
+    least = sum([score for person, score in zip(people, scores) if person[0] == 1])
+    chosen = len(members(people, 1))
+    middle = len(scores) // 2
+    late = sums_by_size(scores[middle:])
+    found = 0
+    ways = 0
+    for size, sums in enumerate(sums_by_size(scores[:middle])):
+        rest = chosen - size
+        if within(rest, len(late) - 1):
+            found += reaching(sums, late[rest], least)
+            ways += len(sums) * len(late[rest])
+    return lowest(found, ways)
 
 
 # The calls
@@ -207,9 +329,27 @@ def half_answer(people, group):
     return [half_of(steps_of(members(people, group)))]
 
 
+def against_answer(people, call, most):
+    if not within(most, MOST_BYTES):
+        return [OUT_OF_RANGE]
+    return fraction_answer(gap_of(people) if call == GAP else sway_of(people), most)
+
+
+def rare_answer(people, measure, most):
+    if not (within(measure, LAST_MEASURE) and within(most, MOST_BYTES)):
+        return [OUT_OF_RANGE]
+    return fraction_answer(rare_of(people, measure), most)
+
+
 def answer_of(people, call, numbers):
     if call == HALF:
         return half_answer(people, numbers[0])
+    if call == GAP or call == SWAY:
+        return against_answer(people, call, numbers[0])
+    if call == PAIRS:
+        return [pairs_of(people)]
+    if call == RARE:
+        return rare_answer(people, numbers[0], numbers[1])
     return measure_answer(people, call, numbers[0], numbers[1], numbers[2])
 
 

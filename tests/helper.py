@@ -1,6 +1,7 @@
 """Builds lists of calls, reads lists of answers, and measures anew by another way to check against."""
 
 from fractions import Fraction
+from itertools import combinations
 
 from lastingshares.groups import answers
 
@@ -8,6 +9,10 @@ LASTS = 1
 SPREAD = 2
 COME = 3
 HALF = 4
+GAP = 5
+SWAY = 6
+PAIRS = 7
+RARE = 8
 FRACTION_CALLS = (LASTS, SPREAD, COME)
 
 
@@ -90,3 +95,58 @@ def expected_half(people, group):
         if expected(people, LASTS, group, moment) <= Fraction(1, 2):
             return moment
     return -3
+
+
+def joint_counts(people):
+    """At each end of all: those there and those for whom it ends, of group 0, then of group 1."""
+    found = []
+    for moment in sorted({t for _, t, e in people if e == 1}):
+        row = []
+        for group in (0, 1):
+            row.append(sum(1 for g, t, _ in people if g == group and t >= moment))
+            row.append(sum(1 for g, t, e in people if g == group and t == moment and e == 1))
+        found.append(row)
+    return found
+
+
+def expected_gap(people):
+    total = Fraction(0)
+    for there_0, ended_0, there_1, ended_1 in joint_counts(people):
+        total += ended_1 - there_1 * Fraction(ended_0 + ended_1, there_0 + there_1)
+    return total
+
+
+def expected_sway(people):
+    total = Fraction(0)
+    for there_0, ended_0, there_1, ended_1 in joint_counts(people):
+        there = there_0 + there_1
+        ended = ended_0 + ended_1
+        if there != 1:
+            total += Fraction(there_1 * there_0 * ended * (there - ended), there ** 2 * (there - 1))
+    return total
+
+
+def expected_pairs(people):
+    total = 0
+    for _, one, _ in some(people, 1):
+        for _, zero, _ in some(people, 0):
+            total += (one > zero) + (one >= zero)
+    return total
+
+
+def expected_times(people):
+    return sum(time for group, time, _ in people if group == 1)
+
+
+MEASURES = (expected_times, expected_pairs, expected_gap)
+
+
+def expected_rare(people, k):
+    """Every choice made by hand, and the measure taken anew of each by its own words."""
+    measure = MEASURES[k]
+    least = measure(people)
+    reached = []
+    for chosen in combinations(range(len(people)), len(some(people, 1))):
+        made = [(int(place in chosen), time, ended) for place, (_, time, ended) in enumerate(people)]
+        reached.append(measure(made) >= least)
+    return Fraction(sum(reached), len(reached))
